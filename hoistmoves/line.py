@@ -1,0 +1,18 @@
+"""The line of pits and its hoist."""
+
+
+class Line:
+    """The limits of each pit, as pairs of least and most, and the times of the hoist."""
+
+    def __init__(self, move_time, empty_time):
+        self.pits = []
+        self.move_time = move_time
+        self.empty_time = empty_time
+
+    def has_pit(self, pit):
+        """Tell whether there is a pit of this number."""
+        return 0 <= pit < len(self.pits)
+
+    def reach(self, move, other):
+        """Answer the minutes from the start of a move until the hoist can start the other one."""
+        return self.move_time + self.empty_time * abs(other - (move + 1))

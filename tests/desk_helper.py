@@ -15,6 +15,7 @@ TOO_MANY_PITS = -28
 NONE_FOUND = -33
 
 GREATEST = 4294967295
+MOST_CALLS = 60
 PERIODS = range(1, 100)
 
 
@@ -77,16 +78,6 @@ def run(calls):
     return results
 
 
-def run_all(calls, most_calls=60):
-    """Run more calls than one list may have: the first call list, then the questions in portions."""
-    setup, questions = calls
-    room = most_calls - len(setup)
-    results = []
-    for start in range(0, len(questions), room):
-        results += run(setup + questions[start : start + room])[len(setup) :]
-    return results
-
-
 def line_calls(line):
     """The calls that make a line, told as (move_time, empty_time, windows)."""
     move_time, empty_time, windows = line
@@ -94,8 +85,13 @@ def line_calls(line):
 
 
 def ask(line, questions):
-    """The answers to questions about a line, however many they are."""
-    return run_all((line_calls(line), questions))
+    """The answers to questions about a line, in lists of no more calls than are allowed."""
+    setup = line_calls(line)
+    room = MOST_CALLS - len(setup)
+    results = []
+    for start in range(0, len(questions), room):
+        results += run(setup + questions[start : start + room])[len(setup) :]
+    return results
 
 
 def starts_by(line, plan):

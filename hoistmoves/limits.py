@@ -13,6 +13,7 @@ GREATEST_LIMIT = 30
 WIDEST_WINDOW = 8
 GREATEST_PERIOD = 99
 GREATEST_STAY = 99
+GREATEST_LOTS = 99
 
 
 def is_window(least, most):
@@ -28,6 +29,11 @@ def is_speed(move_time, empty_time):
 def is_period(period):
     """Tell whether lots may be started this many minutes apart."""
     return 1 <= period <= GREATEST_PERIOD
+
+
+def is_lots(lots):
+    """Tell whether so many lots may be asked about."""
+    return 1 <= lots <= GREATEST_LOTS
 
 
 def is_plan(plan, pit_count):

@@ -11,21 +11,24 @@ def move_times(line, plan):
     return times
 
 
+def stays_between(line, times):
+    """Answer the plan by which the moves start at these times."""
+    return [times[move + 1] - times[move] - line.move_time for move in range(len(times) - 1)]
+
+
+def allowed_gap(line, period, first, second):
+    """Answer how soon and how late, modulo the period, the second move starts without a conflict.
+
+    Behind it the rest of the period is left until the first move starts again. A start at the same
+    time needs no question of its own: it is too soon, for a move takes a minute at least.
+    """
+    return line.reach(first, second), period - line.reach(second, first)
+
+
 def moves_conflict(line, period, times, first, second):
     """Tell whether two moves with different numbers conflict, for whatever lots."""
-    after = (times[second] - times[first]) % period
-    before = (times[first] - times[second]) % period
-    # A start at the same time needs no question of its own: a move takes a minute at least.
-    return after < line.reach(first, second) or before < line.reach(second, first)
-
-
-def last_move_fits(line, period, times):
-    """Tell whether the last of these moves conflicts with none ahead of it."""
-    last = len(times) - 1
-    for move in range(last):
-        if moves_conflict(line, period, times, move, last):
-            return False
-    return True
+    nearest, farthest = allowed_gap(line, period, first, second)
+    return not nearest <= (times[second] - times[first]) % period <= farthest
 
 
 def hoist_keeps_up(line, period):
@@ -46,32 +49,66 @@ def plan_feasible(line, period, plan):
     """Tell whether a plan with one stay per pit is feasible for the period."""
     if not hoist_keeps_up(line, period) or not stays_allowed(line, period, plan):
         return False
+    return find_first_conflict(line, period, plan) is None
+
+
+def find_first_conflict(line, period, plan):
+    """Answer the first pair of moves that conflict, whatever the limits for stays, or None."""
     times = move_times(line, plan)
-    return all([last_move_fits(line, period, times[:count]) for count in range(2, len(times) + 1)])
+    for first in range(len(times)):
+        for second in range(first + 1, len(times)):
+            if moves_conflict(line, period, times, first, second):
+                return [first, second]
+    return None
 
 
-def first_plan_from(line, period, plan):
-    """Answer the first plan that begins with these stays and has no conflict, or None.
+def next_starts(line, period, times):
+    """Answer when the move behind these may start, by the limits of its pit and without a conflict."""
+    least, most = line.pits[len(times) - 1]
+    arrival = times[-1] + line.move_time
+    starts = [arrival + stay for stay in range(least, min(most, period - 1) + 1)]
+    for move, begun in enumerate(times):
+        nearest, farthest = allowed_gap(line, period, move, len(times))
+        starts = [start for start in starts if nearest <= (start - begun) % period <= farthest]
+    return starts
+
+
+def first_times_from(line, period, times):
+    """Answer the starts of all moves by the first plan that begins with these ones, or None.
 
     A conflict of the moves so far stays one whatever follows, so no such beginning is gone on with.
     """
-    if len(plan) == len(line.pits):
-        return plan
-    least, most = line.pits[len(plan)]
-    for stay in range(least, min(most, period - 1) + 1):
-        longer = plan + [stay]
-        if last_move_fits(line, period, move_times(line, longer)):
-            found = first_plan_from(line, period, longer)
-            if found is not None:
-                return found
+    if len(times) > len(line.pits):
+        return times
+    for start in next_starts(line, period, times):
+        found = first_times_from(line, period, times + [start])
+        if found is not None:
+            return found
     return None
+
+
+def count_plans_from(line, period, times):
+    """Count the plans without a conflict by which the moves begin with these starts."""
+    if len(times) > len(line.pits):
+        return 1
+    return sum([count_plans_from(line, period, times + [start]) for start in next_starts(line, period, times)])
 
 
 def find_first_plan(line, period):
     """Answer the first feasible plan for the period, or None."""
     if not hoist_keeps_up(line, period):
         return None
-    return first_plan_from(line, period, [])
+    times = first_times_from(line, period, [0])
+    if times is None:
+        return None
+    return stays_between(line, times)
+
+
+def count_plans(line, period):
+    """Count the feasible plans for the period."""
+    if not hoist_keeps_up(line, period):
+        return 0
+    return count_plans_from(line, period, [0])
 
 
 def find_shortest_period(line):
@@ -80,3 +117,31 @@ def find_shortest_period(line):
         if find_first_plan(line, period) is not None:
             return period
     return None
+
+
+def find_feasible_periods(line):
+    """Answer all periods with a feasible plan, the shortest first."""
+    return [period for period in range(1, GREATEST_PERIOD + 1) if find_first_plan(line, period) is not None]
+
+
+def time_through(line, plan):
+    """Answer the minutes from the start of a lot's first move to the end of its last one."""
+    return move_times(line, plan)[-1] + line.move_time
+
+
+def pits_occupied(line, period, plan, minute):
+    """Count the pits that hold a lot in this minute of every period.
+
+    A stay is less than the period, so a pit never holds the lot of more than one period.
+    """
+    count = 0
+    for start, stay in zip(move_times(line, plan), plan):
+        # A pit is free from the very start of the move that takes its lot away.
+        if (minute - (start + line.move_time)) % period < stay:
+            count += 1
+    return count
+
+
+def most_occupied(line, period, plan):
+    """Answer the greatest number of pits that hold a lot in the same minute, in the long run."""
+    return max([pits_occupied(line, period, plan, minute) for minute in range(period)])

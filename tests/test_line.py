@@ -3,33 +3,38 @@
 import unittest
 
 from desk_helper import (
+    BAD_SPEEDS,
+    BAD_WINDOWS,
+    FAR,
+    GOOD_SPEEDS,
+    GOOD_WINDOWS,
     GREATEST,
     NO_LINE,
     NO_SUCH_PIT,
     OUT_OF_LIMITS,
     TOO_MANY_PITS,
     add_pit,
+    completion_time,
     create,
+    feasible_periods,
+    first_conflict,
     first_plan,
     get_pit,
     is_feasible,
+    max_occupied,
+    plan_count,
     remove_pit,
     run,
     set_speed,
     set_window,
     shortest_period,
+    shortest_period_with_speed,
+    shortest_period_with_window,
     start_times,
+    status,
+    throughput_time,
 )
 
-FAR = (GREATEST - 1, GREATEST, 2147483647, 2147483648, 65536, 1000)
-GOOD_SPEEDS = [(1, 0), (1, 4), (9, 0), (9, 4), (5, 2)]
-BAD_SPEEDS = [(0, 0), (0, 4), (10, 0), (10, 4), (1, 5), (9, 5), (0, 5), (10, 5)]
-BAD_SPEEDS += [(far, 0) for far in FAR] + [(1, far) for far in FAR] + [(far, far) for far in FAR]
-GOOD_WINDOWS = [(1, 1), (1, 9), (30, 30), (29, 30), (22, 30), (5, 5), (5, 13), (13, 21)]
-BAD_WINDOWS = [(0, 0), (0, 1), (0, 8), (2, 1), (30, 29), (1, 10), (5, 14), (21, 30), (1, 30)]
-BAD_WINDOWS += [(30, 31), (31, 31), (23, 31), (22, 31), (5, 0), (31, 30)]
-BAD_WINDOWS += [(far, 5) for far in FAR] + [(5, far) for far in FAR] + [(far, far) for far in FAR]
-BAD_WINDOWS += [(GREATEST - 8, GREATEST), (GREATEST, 0), (0, GREATEST)]
 PITS = [(1, 9), (5, 5), (22, 30), (30, 30)]
 MAKE = [create(7, 3)] + [add_pit(least, most) for least, most in PITS]
 
@@ -57,6 +62,15 @@ class NoLine(unittest.TestCase):
             first_plan(11),
             start_times(11),
             is_feasible(11, []),
+            first_conflict(11, []),
+            plan_count(11),
+            throughput_time(11),
+            max_occupied(11),
+            completion_time(11, 1),
+            shortest_period_with_window(0, 5, 8),
+            shortest_period_with_speed(2, 1),
+            feasible_periods(),
+            status(),
         ]
         self.assertEqual(run(others), [[NO_LINE]] * len(others))
 
@@ -74,6 +88,17 @@ class NoLine(unittest.TestCase):
             is_feasible(0, []),
             is_feasible(11, [100]),
             is_feasible(GREATEST, [GREATEST] * 6),
+            first_conflict(0, []),
+            first_conflict(11, [100]),
+            first_conflict(GREATEST, [GREATEST] * 6),
+            plan_count(0),
+            plan_count(GREATEST),
+            throughput_time(0),
+            max_occupied(100),
+            completion_time(0, 0),
+            completion_time(GREATEST, GREATEST),
+            shortest_period_with_window(GREATEST, 0, GREATEST),
+            shortest_period_with_speed(0, 5),
         ]
         self.assertEqual(run(others), [[NO_LINE]] * len(others))
 

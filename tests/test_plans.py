@@ -3,11 +3,18 @@
 import unittest
 
 from desk_helper import (
+    AT_LONGEST,
+    BAD_PERIODS,
+    BEYOND_LONGEST,
+    EXAMPLE,
+    FOUR,
     GREATEST,
+    JUST_BEYOND,
     NONE_FOUND,
     OUT_OF_LIMITS,
     PERIODS,
     add_pit,
+    answer,
     ask,
     create,
     first_plan,
@@ -19,20 +26,6 @@ from desk_helper import (
     shortest_period,
     start_times,
 )
-
-BAD_PERIODS = (0, 100, 101, 1000, 2147483648, GREATEST - 1, GREATEST)
-EXAMPLE = (2, 1, [(5, 8), (3, 10)])
-# By the plan 13, 12, 26 the last move ends at 83, and the way back from the last place takes 16.
-AT_LONGEST = (8, 4, [(13, 13), (12, 14), (26, 26)])
-# The same with a stay of a minute more, which only a period of 100 would have room for.
-JUST_BEYOND = (8, 4, [(13, 13), (12, 14), (27, 27)])
-# One lot and the way back take 112 minutes at the least, and no other lot can be carried meanwhile.
-BEYOND_LONGEST = (8, 4, [(27, 30), (16, 18), (21, 21)])
-FOUR = (3, 1, [(4, 12), (10, 18), (6, 14), (9, 17)])
-
-
-def answer(line, question):
-    return ask(line, [question])[0]
 
 
 class ShortestPeriod(unittest.TestCase):

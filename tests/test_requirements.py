@@ -1,4 +1,4 @@
-"""The document's requirements 1, 2, 3 and 6, held against its definitions written out anew."""
+"""The document's requirements 1 to 6, held against its definitions written out anew."""
 
 import unittest
 from itertools import product
@@ -7,14 +7,21 @@ from random import Random
 from desk_helper import (
     NONE_FOUND,
     PERIODS,
+    answer,
     ask,
+    bound_by_the_words,
     clash,
     feasible,
+    feasible_periods,
     feasible_plans,
     first_plan,
     is_feasible,
+    plan_count,
     shortest_period,
+    shortest_period_with_speed,
+    shortest_period_with_window,
     start_times,
+    status,
 )
 
 
@@ -39,20 +46,30 @@ LINES = FEW_PITS + MANY_PITS + QUICK
 WIDE = made_lines(4, 25, [4], 8, ALL_SPEEDS)
 
 
-class FirstOfThePlans(unittest.TestCase):
-    """1: first_plan is the first of the plans for which is_feasible returns 1."""
+def shortest_by_the_definitions(line):
+    for period in PERIODS:
+        if feasible_plans(line, period):
+            return period
+    return NONE_FOUND
 
-    def test_first_plan_by_the_definitions(self):
+
+class PlansAreComplete(unittest.TestCase):
+    """1: plan_count counts the plans for which is_feasible returns 1, and first_plan is their first."""
+
+    def test_first_plan_and_plan_count_by_the_definitions(self):
         for line in LINES:
             periods = [period for period in PERIODS if period % 3 == 0 or period < 30]
-            expected = []
+            firsts = []
+            counts = []
             for period in periods:
                 plans = feasible_plans(line, period)
-                expected.append([len(line[2])] + plans[0] if plans else [NONE_FOUND])
+                firsts.append([len(line[2])] + plans[0] if plans else [NONE_FOUND])
+                counts.append([len(plans)])
             with self.subTest(line=line):
-                self.assertEqual(ask(line, [first_plan(period) for period in periods]), expected)
+                self.assertEqual(ask(line, [first_plan(period) for period in periods]), firsts)
+                self.assertEqual(ask(line, [plan_count(period) for period in periods]), counts)
 
-    def test_first_plan_among_those_that_is_feasible_takes(self):
+    def test_first_plan_and_plan_count_among_those_that_is_feasible_takes(self):
         for line in FEW_PITS + QUICK:
             shortest = ask(line, [shortest_period()])[0][0]
             plans = list(product(*[range(least, most + 1) for least, most in line[2]]))
@@ -61,7 +78,7 @@ class FirstOfThePlans(unittest.TestCase):
                 taken = [list(plan) for plan, result in zip(plans, results) if result == [1]]
                 expected = [len(line[2])] + taken[0] if taken else [NONE_FOUND]
                 with self.subTest(line=line, period=period):
-                    self.assertEqual(ask(line, [first_plan(period)]), [expected])
+                    self.assertEqual(ask(line, [first_plan(period), plan_count(period)]), [expected, [len(taken)]])
 
     def test_is_feasible_by_the_definitions(self):
         source = Random(5)
@@ -82,13 +99,8 @@ class ShortestIsMinimal(unittest.TestCase):
 
     def test_shortest_period_by_the_definitions(self):
         for line in LINES:
-            expected = [NONE_FOUND]
-            for period in PERIODS:
-                if feasible_plans(line, period):
-                    expected = [period]
-                    break
             with self.subTest(line=line):
-                self.assertEqual(ask(line, [shortest_period()]), [expected])
+                self.assertEqual(answer(line, shortest_period()), [shortest_by_the_definitions(line)])
 
     def test_first_plan_refuses_all_that_is_shorter(self):
         for line in WIDE:
@@ -97,6 +109,26 @@ class ShortestIsMinimal(unittest.TestCase):
             found = [period for period, result in zip(PERIODS, results) if result != [NONE_FOUND]]
             with self.subTest(line=line):
                 self.assertEqual(shortest, found[0] if found else NONE_FOUND)
+                self.assertEqual(answer(line, feasible_periods()), [len(found)] + found)
+
+    def test_feasible_periods_by_the_definitions(self):
+        for line in LINES:
+            expected = [period for period in PERIODS if feasible_plans(line, period)]
+            with self.subTest(line=line):
+                self.assertEqual(answer(line, feasible_periods()), [len(expected)] + expected)
+
+    def test_shortest_period_with_changes_by_the_definitions(self):
+        for move_time, empty_time, windows in LINES:
+            for pit in range(len(windows)):
+                changed = windows[:pit] + [(14, 15)] + windows[pit + 1 :]
+                expected = shortest_by_the_definitions((move_time, empty_time, changed))
+                with self.subTest(line=(move_time, empty_time, windows), pit=pit):
+                    question = shortest_period_with_window(pit, 14, 15)
+                    self.assertEqual(answer((move_time, empty_time, windows), question), [expected])
+            expected = shortest_by_the_definitions((3, 1, windows))
+            with self.subTest(line=(move_time, empty_time, windows)):
+                question = shortest_period_with_speed(3, 1)
+                self.assertEqual(answer((move_time, empty_time, windows), question), [expected])
 
 
 class OnePlaceAtATime(unittest.TestCase):
@@ -113,6 +145,78 @@ class OnePlaceAtATime(unittest.TestCase):
                 for place, earlier in enumerate(moves):
                     for later in moves[place + 1 :]:
                         self.assertFalse(clash(line, earlier, later), (line, period, earlier, later))
+
+
+class NotBelowTheBound(unittest.TestCase):
+    """4: the shortest period is at least the bound returned by status."""
+
+    def test_shortest_period(self):
+        met = 0
+        for line in LINES + WIDE:
+            results = ask(line, [status(), shortest_period()])
+            bound = results[0][3]
+            with self.subTest(line=line):
+                self.assertEqual(bound, bound_by_the_words(line))
+                if results[1] != [NONE_FOUND]:
+                    self.assertGreaterEqual(results[1][0], bound)
+                    met += results[1][0] == bound
+        # Where the bound is met it can't be greater than it ought to be.
+        self.assertGreater(met, 5)
+
+    def test_no_plan_below_it(self):
+        for line in LINES + WIDE:
+            bound = answer(line, status())[3]
+            with self.subTest(line=line):
+                self.assertTrue(all(period >= bound for period in answer(line, feasible_periods())[1:]))
+                for period in range(1, min(bound, 100)):
+                    self.assertEqual(answer(line, plan_count(period)), [0])
+
+
+class WiderWindow(unittest.TestCase):
+    """5: a wider window never makes the shortest period longer."""
+
+    def length(self, line, question):
+        result = answer(line, question)
+        return 100 if result == [NONE_FOUND] else result[0]
+
+    def widened(self, window):
+        least, most = window
+        wider = []
+        for lower in range(max(1, least - 3), least + 1):
+            for upper in range(most, min(30, lower + 8) + 1):
+                wider.append((lower, upper))
+        return wider
+
+    def test_shortest_period_with_each_wider_window(self):
+        shorter = 0
+        for line in LINES:
+            before = self.length(line, shortest_period())
+            for pit, window in enumerate(line[2]):
+                for wider in self.widened(window):
+                    behind = self.length(line, shortest_period_with_window(pit, *wider))
+                    with self.subTest(line=line, pit=pit, wider=wider):
+                        self.assertLessEqual(behind, before)
+                    shorter += behind < before
+        self.assertGreater(shorter, 50)
+
+    def test_each_window_a_minute_wider_than_the_one_ahead(self):
+        for line in QUICK + WIDE[:5]:
+            for pit in range(len(line[2])):
+                windows = [(12, 12 + wide) for wide in range(9)]
+                lengths = [self.length(line, shortest_period_with_window(pit, *window)) for window in windows]
+                with self.subTest(line=line, pit=pit):
+                    self.assertEqual(lengths, sorted(lengths, reverse=True))
+
+    def test_plans_and_periods_of_the_narrower_one_remain(self):
+        for move_time, empty_time, windows in QUICK:
+            wide = (move_time, empty_time, [(least, min(30, least + 8)) for least, most in windows])
+            line = (move_time, empty_time, windows)
+            with self.subTest(line=line):
+                narrow_periods = answer(line, feasible_periods())[1:]
+                self.assertLessEqual(set(narrow_periods), set(answer(wide, feasible_periods())[1:]))
+                for period in (30, 50, 99):
+                    counts = [answer(one, plan_count(period))[0] for one in (line, wide)]
+                    self.assertLessEqual(*counts)
 
 
 class StaysAsPlanned(unittest.TestCase):
